@@ -10,6 +10,9 @@ LEAST_N = 2
 GREATEST_N = 60
 GREATEST_K = 60
 GREATEST_IN_PAIR = 1000000
+GREATEST_B_LISTED = 300
+GREATEST_B_COUNTED = 2000
+GREATEST_Y_ASKED = 1000000
 MOST_STEPS = 100
 
 BEGIN = 0
@@ -93,13 +96,26 @@ def bound_of(line, k):
     return root(q * q * k // (2 * (p - 1)))
 
 
+def difference_told(s, k):
+    return -k if s == 1 else k
+
+
+def pairs_with_y(n, wanted, y):
+    """The pair whose difference is the wanted one and that has this y, in a list; an empty one if there is none."""
+    square = wanted + n * y * y
+    if square < 0:
+        return []
+    x = root(square)
+    if x * x != square:
+        return []
+    return [(x, y)]
+
+
 def pairs_up_to(n, wanted, greatest_y):
     """All pairs whose difference is the wanted one, with y from 0 to greatest_y, by y."""
     found = []
     for y in range(greatest_y + 1):
-        square = wanted + n * y * y
-        if square >= 0 and is_square(square):
-            found.append((root(square), y))
+        found.extend(pairs_with_y(n, wanted, y))
     return found
 
 
@@ -109,12 +125,19 @@ def pairs_in_bound(line, s, k):
     No first one is above the bound, and the pair with the least y is a first
     one: so this holds all first ones, and is empty just if no pair is there.
     """
-    wanted = -k if s == 1 else k
-    return pairs_up_to(line.n, wanted, bound_of(line, k))
+    return pairs_up_to(line.n, difference_told(s, k), bound_of(line, k))
+
+
+def some_pair_has(line, s, k):
+    return len(pairs_in_bound(line, s, k)) > 0
+
+
+def is_k(k):
+    return k >= 1 and k <= GREATEST_K
 
 
 def tells_difference(s, k):
-    return s <= 1 and k >= 1 and k <= GREATEST_K
+    return s <= 1 and is_k(k)
 
 
 def laid_out(found):
@@ -184,8 +207,7 @@ def answer_firsts(line, given):
 def answer_can(line, given):
     if not tells_difference(given[0], given[1]):
         return [NOT_AS_TOLD]
-    found = pairs_in_bound(line, given[0], given[1])
-    return [1 if len(found) > 0 else 0]
+    return [1 if some_pair_has(line, given[0], given[1]) else 0]
 
 
 def answer_least(line, given):
@@ -197,8 +219,61 @@ def answer_least(line, given):
     return [0, found[0][0], found[0][1]]
 
 
-# How many numbers stand behind each call's own, by that number. Also the calls
-# that have no answer yet stand here: ahead of a begin they too are refused.
+def answer_upto(line, given):
+    b = given[2]
+    if not tells_difference(given[0], given[1]) or b > GREATEST_B_LISTED:
+        return [NOT_AS_TOLD]
+    return laid_out(pairs_up_to(line.n, difference_told(given[0], given[1]), b))
+
+
+def answer_many(line, given):
+    b = given[2]
+    if not tells_difference(given[0], given[1]) or b > GREATEST_B_COUNTED:
+        return [NOT_AS_TOLD]
+    return [len(pairs_up_to(line.n, difference_told(given[0], given[1]), b))]
+
+
+def answer_bound(line, given):
+    k = given[0]
+    if not is_k(k):
+        return [NOT_AS_TOLD]
+    return [bound_of(line, k)]
+
+
+def answer_which(line, given):
+    s = given[0]
+    b = given[1]
+    # b is no k itself, only where they end: b of 0 asks for none of them.
+    if s > 1 or b > GREATEST_K:
+        return [NOT_AS_TOLD]
+    found = [k for k in range(1, b + 1) if some_pair_has(line, s, k)]
+    return [len(found)] + found
+
+
+def answer_withy(line, given):
+    y = given[2]
+    if not tells_difference(given[0], given[1]) or y > GREATEST_Y_ASKED:
+        return [NOT_AS_TOLD]
+    found = pairs_with_y(line.n, difference_told(given[0], given[1]), y)
+    if len(found) == 0:
+        return [NONE_HAS_IT]
+    return [0, found[0][0], y]
+
+
+def answer_diff(line, given):
+    return [0, difference_of(line.n, line.at)]
+
+
+def answer_other(line, given):
+    below = step_down(line, line.at)
+    return [0, below[0], below[1]]
+
+
+def answer_told(line, given):
+    return [line.n, line.at[0], line.at[1]]
+
+
+# How many numbers stand behind each call's own, by that number.
 GIVEN_COUNTS = (1, 2, 0, 0, 0, 0, 2, 2, 2, 3, 3, 1, 2, 3, 0, 0, 0)
 
 ANSWERERS = (
@@ -211,6 +286,14 @@ ANSWERERS = (
     answer_firsts,
     answer_can,
     answer_least,
+    answer_upto,
+    answer_many,
+    answer_bound,
+    answer_which,
+    answer_withy,
+    answer_diff,
+    answer_other,
+    answer_told,
 )
 
 

@@ -14,11 +14,23 @@ NUMBERS = {
     "firsts": 6,
     "can": 7,
     "least": 8,
+    "upto": 9,
+    "many": 10,
+    "bound": 11,
+    "which": 12,
+    "withy": 13,
+    "diff": 14,
+    "other": 15,
+    "told": 16,
 }
 
 ALL_N = [n for n in range(2, 61) if isqrt(n) ** 2 != n]
 
 GREATEST = 4294967295
+
+# s and k that tell no difference.
+NO_DIFFERENCES = ((2, 1), (2, 0), (GREATEST, 60), (0, 0), (1, 0), (0, 61), (1, 61), (0, GREATEST), (1, GREATEST),
+                  (GREATEST, GREATEST), (GREATEST, 0))
 
 
 def laid(calls):
@@ -78,6 +90,10 @@ def slow_pairs(n, wanted, greatest_y):
         if square >= 0 and isqrt(square) ** 2 == square:
             found.append((isqrt(square), y))
     return found
+
+
+def told_by(s, k):
+    return k * (1 - 2 * s)
 
 
 def flat(pairs):

@@ -2,13 +2,10 @@
 
 import unittest
 
-from tests.helper import ALL_N, GREATEST, ask, flat, last, slow_down, slow_one, slow_pairs
+from tests.helper import ALL_N, NO_DIFFERENCES, ask, flat, last, slow_down, slow_one, slow_pairs, told_by
 
 # No first one is above 193 (that is 53's bound of 60), so a look this far misses none.
 FAR = 250
-
-REFUSED = ((2, 1), (2, 0), (GREATEST, 60), (0, 0), (1, 0), (0, 61), (1, 61), (0, GREATEST), (1, GREATEST),
-           (GREATEST, GREATEST), (GREATEST, 0))
 
 # By n, s and k: differences whose pair with the least y lies just at the bound.
 AT_THE_BOUND = {
@@ -32,7 +29,7 @@ class EveryDifference(unittest.TestCase):
                         self.compare(n, one, s, k)
 
     def compare(self, n, one, s, k):
-        found = slow_pairs(n, k * (1 - 2 * s), FAR)
+        found = slow_pairs(n, told_by(s, k), FAR)
         first_ones = [at for at in found if slow_down(n, one, at)[1] >= at[1]]
         self.assertEqual(
             ask(("begin", n), ("firsts", s, k), ("can", s, k), ("least", s, k)),
@@ -68,7 +65,7 @@ class EveryDifference(unittest.TestCase):
 class Refusals(unittest.TestCase):
     def test_what_tells_no_difference(self):
         for call in ("firsts", "can", "least"):
-            for s, k in REFUSED:
+            for s, k in NO_DIFFERENCES:
                 with self.subTest(call=call, s=s, k=k):
                     self.assertEqual(last(("begin", 2), (call, s, k)), [-22])
 
